@@ -1,0 +1,1 @@
+"""A season: which bills, week by week, pay the sharers most."""
